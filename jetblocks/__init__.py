@@ -1,0 +1,1 @@
+"""Clusters and jets in a calorimeter, computed with whole numbers only."""

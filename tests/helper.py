@@ -1,0 +1,109 @@
+"""Builds lists of calls and takes lists of answers apart."""
+
+import unittest
+
+from jetblocks.calorimeter import answers
+
+FAR = 2 ** 53
+TOP = 2 ** 40
+
+FIND = [6]
+
+
+def begin(seed=1, low=1, reach=64):
+    return [1, seed, low, reach]
+
+
+def gain(k, mul=1, shift=0, zero=0):
+    return [2, k, mul, shift, zero]
+
+
+def weights(w, v):
+    return [3] + list(w) + list(v)
+
+
+def pulse(block, samples, k=0):
+    return [4, block, k] + list(samples)
+
+
+def block(number):
+    return [5, number]
+
+
+def cluster(number):
+    return [7, number]
+
+
+def first(*samples):
+    """Eight samples: those given, then zeros."""
+    return list(samples) + [0] * (8 - len(samples))
+
+
+# With these weights the first seven samples add up to the energy, and the last one makes the time.
+PLAIN_WEIGHTS = weights([1] * 7 + [0], [0] * 7 + [1])
+
+
+def hit(number, energy, late=0):
+    """A pulse that is not full; under PLAIN_WEIGHTS the time is 256 * late / energy."""
+    samples = []
+    for _ in range(7):
+        samples.append(min(energy - sum(samples), 4094))
+    if sum(samples) != energy or not 0 <= late <= 4094:
+        raise ValueError(f"no such pulse: {energy}, {late}")
+    return pulse(number, samples + [late])
+
+
+def flat(calls):
+    return [number for call in calls for number in call]
+
+
+def take_apart(numbers):
+    """The answers one by one, from the list in which each has its length before it."""
+    found = []
+    position = 0
+    while position < len(numbers):
+        end = position + 1 + numbers[position]
+        if end > len(numbers):
+            raise ValueError("the last answer is cut off")
+        found.append(numbers[position + 1:end])
+        position = end
+    return found
+
+
+def ask(*calls):
+    """The answers to the calls, a list for each."""
+    numbers = answers(flat(calls))
+    if [number for number in numbers if type(number) is not int]:
+        raise ValueError("an answer is not a whole number")
+    found = take_apart(numbers)
+    if len(found) != len(calls):
+        raise ValueError("not one answer for each call")
+    return found
+
+
+def last(*calls):
+    """The answer to the last of the calls."""
+    return ask(*calls)[-1]
+
+
+class CallCase(unittest.TestCase):
+    def assert_last(self, expected, *calls):
+        self.assertEqual(last(*calls), expected)
+
+    def assert_refused_around(self, make, least, greatest, before):
+        """make(value) is a call that is refused with -2 outside the range, and not at its ends."""
+        for value in (least, greatest):
+            self.assertGreaterEqual(last(*before, make(value))[0], 0, value)
+        for value in (least - 1, greatest + 1, -FAR, FAR):
+            self.assertEqual(last(*before, make(value)), [-2], value)
+
+
+class Numbers:
+    """Made-up numbers, the same ones each time."""
+
+    def __init__(self, start):
+        self.state = start
+
+    def below(self, limit):
+        self.state = (self.state * 6364136223846793005 + 1442695040888963407) % 2 ** 64
+        return (self.state >> 33) % limit
