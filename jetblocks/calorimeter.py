@@ -47,8 +47,44 @@ def answer_cluster(detector, given):
     return [len(cluster.parts), cluster.seed, cluster.energy, cluster.column, cluster.row, time, full]
 
 
+def answer_parts(detector, given):
+    """parts(cluster)"""
+    cluster = detector.cluster_at(given[0])
+    numbers = [len(cluster.parts)]
+    for block, energy in cluster.parts:
+        numbers.extend([block, energy])
+    return numbers
+
+
+def answer_find_jets(detector, given):
+    """find_jets()"""
+    return [detector.find_jets()]
+
+
+def answer_jet(detector, given):
+    """jet(jet)"""
+    jet = detector.jet_at(given[0])
+    return [len(jet.clusters), jet.energy, jet.column, jet.row] + jet.clusters
+
+
+def answer_sums(detector, given):
+    """sums()"""
+    return [0] + list(detector.energy_sums())
+
+
+def answer_window(detector, given):
+    """window(width, height)"""
+    return list(detector.window_of(given[0], given[1]))
+
+
+def answer_clear(detector, given):
+    """clear()"""
+    detector.clear_blocks()
+    return [0]
+
+
 # How many numbers stand behind the number of each call.
-ARGUMENTS = {1: 3, 2: 4, 3: 16, 4: 10, 5: 1, 6: 0, 7: 1}
+ARGUMENTS = {1: 3, 2: 4, 3: 16, 4: 10, 5: 1, 6: 0, 7: 1, 8: 1, 9: 0, 10: 1, 11: 0, 12: 2, 13: 0}
 
 # The calls that need a calorimeter.
 HANDLERS = {
@@ -58,6 +94,12 @@ HANDLERS = {
     5: answer_block,
     6: answer_find_clusters,
     7: answer_cluster,
+    8: answer_parts,
+    9: answer_find_jets,
+    10: answer_jet,
+    11: answer_sums,
+    12: answer_window,
+    13: answer_clear,
 }
 
 

@@ -1,10 +1,7 @@
 """How clusters are found: seeds, the blocks around them, and what each seed gets of a block."""
 
-from jetblocks.grid import BLOCKS, SIDE, column_of, column_step, neighbours, row_of, row_step
+from jetblocks.grid import BLOCKS, CYCLE, FINENESS, column_of, column_step, neighbours, row_of, row_step
 from jetblocks.rounding import nearest
-
-# Columns and rows of clusters are told in 64ths of a block.
-FINENESS = 64
 
 
 class Cluster:
@@ -17,7 +14,7 @@ class Cluster:
         across = sum([energy * column_step(seed, block) for block, energy in parts])
         along = sum([energy * row_step(seed, block) for block, energy in parts])
         self.column = FINENESS * column_of(seed) + nearest(FINENESS * across, self.energy)
-        self.row = (FINENESS * row_of(seed) + nearest(FINENESS * along, self.energy)) % (FINENESS * SIDE)
+        self.row = (FINENESS * row_of(seed) + nearest(FINENESS * along, self.energy)) % CYCLE
 
 
 def present_time(cluster, readings):
@@ -83,3 +80,9 @@ def clusters_of(energies, seed, low):
             for owner, share in zip(owners, shares):
                 parts[owner].append((block, share))
     return [Cluster(block, parts[block]) for block in seeds]
+
+
+def energy_inside(energies, seed, low):
+    """The energy of all blocks that belong to a cluster."""
+    seeds = seed_blocks(energies, seed)
+    return sum([energies[block] for block in range(BLOCKS) if owners_of(block, energies, seeds, low)])

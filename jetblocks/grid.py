@@ -2,6 +2,9 @@
 
 SIDE = 32
 BLOCKS = 1024
+# Columns and rows of clusters are told in 64ths of a block; so told, the rows' cycle is 32 * 64 long.
+FINENESS = 64
+CYCLE = 2048
 
 
 def row_of(block):

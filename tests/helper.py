@@ -8,6 +8,12 @@ FAR = 2 ** 53
 TOP = 2 ** 40
 
 FIND = [6]
+JETS = [9]
+SUMS = [11]
+CLEAR = [13]
+
+# No list has more calls.
+MOST_CALLS = 80
 
 
 def begin(seed=1, low=1, reach=64):
@@ -34,6 +40,23 @@ def cluster(number):
     return [7, number]
 
 
+def parts(number):
+    return [8, number]
+
+
+def jet(number):
+    return [10, number]
+
+
+def window(width, height):
+    return [12, width, height]
+
+
+def at(row, column):
+    """The number of a block; rows go on across the cycle's end."""
+    return 32 * (row % 32) + column
+
+
 def first(*samples):
     """Eight samples: those given, then zeros."""
     return list(samples) + [0] * (8 - len(samples))
@@ -51,6 +74,34 @@ def hit(number, energy, late=0):
     if sum(samples) != energy or not 0 <= late <= 4094:
         raise ValueError(f"no such pulse: {energy}, {late}")
     return pulse(number, samples + [late])
+
+
+# With these weights a sum can be any number up to 2 ** 29 exactly, and more.
+STRONG_WEIGHTS = weights([32767] * 6 + [8, 1], [0] * 8)
+
+
+def strong_samples(charge):
+    """Samples whose sum under STRONG_WEIGHTS is charge."""
+    many, few = divmod(charge, 32767)
+    samples = []
+    for _ in range(6):
+        samples.append(min(many - sum(samples), 4095))
+    samples += [min(few // 8, 4095), few - 8 * min(few // 8, 4095)]
+    if sum(samples[:6]) != many or samples[7] > 4095:
+        raise ValueError(f"no such sum: {charge}")
+    return samples
+
+
+def strong_hit(number, energy):
+    """Two calls that give a block exactly this energy, up to 2 ** 40, under STRONG_WEIGHTS."""
+    if energy < 2 ** 29:
+        return [gain(0), pulse(number, strong_samples(energy))]
+    shift = 9
+    for mul in range(2 ** 20, 2 ** 19, -1):
+        charge = -(-energy * 2 ** shift // mul)
+        if charge * mul >> shift == energy and charge // 32767 <= 6 * 4095:
+            return [gain(0, mul, shift), pulse(number, strong_samples(charge))]
+    raise ValueError(f"no gain for {energy}")
 
 
 def flat(calls):
@@ -78,6 +129,15 @@ def ask(*calls):
     found = take_apart(numbers)
     if len(found) != len(calls):
         raise ValueError("not one answer for each call")
+    return found
+
+
+def ask_in_pieces(before, queries):
+    """The answers to many queries that change nothing, each piece of them behind the same calls."""
+    room = MOST_CALLS - len(before)
+    found = []
+    for start in range(0, len(queries), room):
+        found += ask(*before, *queries[start:start + room])[len(before):]
     return found
 
 

@@ -6,12 +6,8 @@ from jetblocks.clusters import clusters_of, divide
 from jetblocks.grid import neighbours
 from tests import model
 from tests.helper import (
-    FIND, PLAIN_WEIGHTS, TOP, CallCase, Numbers, ask, begin, block, cluster, first, gain, hit, last, pulse, weights,
+    FIND, PLAIN_WEIGHTS, TOP, CallCase, Numbers, ask, at, begin, block, cluster, first, gain, hit, last, pulse, weights,
 )
-
-
-def at(row, column):
-    return 32 * (row % 32) + column
 
 
 def found_clusters(hits, seed=10, low=1):

@@ -4,27 +4,33 @@ import unittest
 
 from jetblocks.calorimeter import answers
 from tests.helper import (
-    FAR, FIND, PLAIN_WEIGHTS, TOP, CallCase, ask, begin, block, cluster, first, flat, gain, hit, last, pulse, weights,
+    CLEAR, FAR, FIND, JETS, PLAIN_WEIGHTS, SUMS, TOP, CallCase, ask, begin, block, cluster, first, flat, gain, hit, jet,
+    last, parts, pulse, weights, window,
 )
 
 
 class NoCalorimeter(CallCase):
     def test_every_call_but_open_answers_minus_seven(self):
-        calls = (gain(0), weights([1] * 8, [0] * 8), pulse(0, [1] * 8), block(0), FIND, cluster(0))
+        calls = (
+            gain(0), weights([1] * 8, [0] * 8), pulse(0, [1] * 8), block(0), FIND, cluster(0), parts(0), JETS, jet(0),
+            SUMS, window(1, 1), CLEAR,
+        )
         for call in calls:
             self.assertEqual(ask(call), [[-7]])
         self.assertEqual(ask(*calls), [[-7]] * len(calls))
 
     def test_arguments_out_of_range_do_not_matter_before_open(self):
-        for value in (-1, FAR, -FAR):
+        for value in (-1, 0, 33, 1024, FAR, -FAR):
             calls = (
                 gain(value, value, value, value), weights([value] * 8, [value] * 8),
-                pulse(value, [value] * 8, value), block(value), cluster(value),
+                pulse(value, [value] * 8, value), block(value), cluster(value), parts(value), jet(value),
+                window(value, value), window(1, value), window(value, 1),
             )
             self.assertEqual(ask(*calls), [[-7]] * len(calls))
 
     def test_a_refused_open_makes_no_calorimeter(self):
-        self.assertEqual(ask(begin(reach=0), block(0), FIND, cluster(-1)), [[-2], [-7], [-7], [-7]])
+        calls = (begin(reach=0), block(0), FIND, cluster(-1), parts(-1), JETS, jet(-1), SUMS, window(0, 0), CLEAR)
+        self.assertEqual(ask(*calls), [[-2]] + [[-7]] * 9)
 
     def test_calls_ahead_of_open_change_nothing(self):
         self.assertEqual(ask(pulse(3, [9] * 8), begin(), block(3)), [[-7], [0], [0, 0, 0, 0]])
